@@ -1,0 +1,1 @@
+"""Groundlots: what is held, on which grounds, and what a change gives up."""

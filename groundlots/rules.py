@@ -1,8 +1,9 @@
-"""Rules: which name is held where others are and some are not."""
+"""Rules: which name is held where others are and some are not; and bases of rules."""
 
-from groundlots.errors import BadRule
-from groundlots.words import is_name, is_names
+from groundlots.errors import BadNames, BadRule, BadRules, NotPlain
+from groundlots.words import MOST_NAMES, is_name, is_names, wanted_names
 
+MOST_RULES = 40
 MOST_BODY = 6
 MOST_UNLESS = 4
 
@@ -48,3 +49,43 @@ def rule_of(told):
     if word != "rule" or not isinstance(body, tuple) or not isinstance(unless, tuple):
         raise BadRule("this is nothing that a rule tells")
     return Rule(head, body, unless=unless)
+
+
+def names_in(rules, more=()):
+    """The rising list of the names that stand in rules or are more ones."""
+    found = {name: True for name in more}
+    for rule in rules:
+        for name in (rule.head, *rule.body, *rule.unless):
+            if name is not None:
+                found[name] = True
+    return sorted(found)
+
+
+def is_base(thing):
+    """Whether a thing, which may be anything, is a list of at most 40 rules with at most 24 names."""
+    if not isinstance(thing, (list, tuple)) or len(thing) > MOST_RULES:
+        return False
+    return all([isinstance(one, Rule) for one in thing]) and len(names_in(thing)) <= MOST_NAMES
+
+
+def wanted_base(thing):
+    """A list of the rules of a base, else BadRules."""
+    if not is_base(thing):
+        raise BadRules("this is no base")
+    return list(thing)
+
+
+def wanted_plain(thing):
+    """A list of the rules of a base of plain ones; BadRules, NotPlain."""
+    base = wanted_base(thing)
+    if any([rule.unless != () for rule in base]):
+        raise NotPlain("plain rules alone are wanted here")
+    return base
+
+
+def wanted_beside(thing, rules, most=MOST_NAMES):
+    """A tuple of the names of a list that goes with rules, 24 names in both at most; else BadNames."""
+    names = wanted_names(thing, most)
+    if len(names_in(rules, names)) > MOST_NAMES:
+        raise BadNames("with those of the rules these are more than 24 names")
+    return names

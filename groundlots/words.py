@@ -1,4 +1,4 @@
-"""Names, and lists of names."""
+"""Names, lists of names, and numbers."""
 
 from groundlots.errors import BadName, BadNames
 
@@ -29,11 +29,23 @@ def is_names(thing, most=MOST_NAMES):
     return all([is_name(one) for one in thing]) and len(set(thing)) == len(thing)
 
 
+def is_number(thing):
+    """Whether a thing, which may be anything, is a number: True and False are none."""
+    return isinstance(thing, int) and not isinstance(thing, bool)
+
+
 def wanted_name(thing):
     """The thing, which is a name, else BadName."""
     if not is_name(thing):
         raise BadName("this is no name")
     return thing
+
+
+def wanted_name_or_none(thing):
+    """The thing, which is a name or None, else BadName."""
+    if thing is None:
+        return None
+    return wanted_name(thing)
 
 
 def wanted_names(thing, most=MOST_NAMES):

@@ -1,6 +1,10 @@
-"""Things of every kind that may be handed in where a name or a list of names is wanted."""
+"""Things of every kind that may be handed in where a name, a list, a base or sets are wanted."""
+
+import string
 
 from groundlots.rules import Rule
+
+LETTERS = string.ascii_lowercase
 
 # None of these is a name, or a list of names.
 NEITHER = [
@@ -16,3 +20,33 @@ NAMES = ["a", "z", "ab", "held", "abcdefgh", "no", "nota", "neve", "nevers", "ma
 
 # These are lists of names, but no names.
 LISTS = [[], (), ["a"], ("a",), ["b", "a"], ("b", "a"), ["abcdefgh", "z"]]
+
+
+def base_with(many):
+    """Rules, six names a rule, in which just so many names stand."""
+    return [Rule(None, list(LETTERS[at:min(at + 6, many)])) for at in range(0, many, 6)]
+
+
+# None of these is a base.
+NO_BASES = [thing for thing in NEITHER if thing != [Rule("a")]] + NAMES + [thing for thing in LISTS if thing] + [
+    [Rule("a"), None], [None, Rule("a")], (Rule("a"), "a"), [Rule("a"), ("rule", "a", (), ())], [[Rule("a")]],
+    {"a": Rule("a")}, [Rule("a").told()], [Rule("a"), True], [Rule("a")] * 41, [Rule(None)] * 41, (Rule("a"),) * 100,
+    base_with(25), [Rule(letter) for letter in LETTERS[:25]], [Rule("a", unless=[letter]) for letter in LETTERS],
+]
+
+# These are bases, but of no plain rules.
+NOT_PLAIN = [
+    [Rule("a", unless=["b"])], (Rule("a"), Rule(None, ["b"], unless=["c"])), [Rule("a", ["b"], unless=["a"])] * 40,
+    [Rule(None, unless=["a"])],
+]
+
+# None of these is a list of sets, of names alone or numbers alone.
+NO_SETS = [
+    0, 1, -1, 7, True, False, None, "", "a", "ab", {}, {"a": 1}, {(): 1}, Rule("a"), Rule(None),
+    ["a"], ("a",), [1], [True], [None], [{}], [{"a": 1}], [""], ["ab"], [Rule("a")], [[Rule("a")]], [["a"], None],
+    [["a", "a"]], [[1, 1]], [("b", "a", "b")], [["A"]], [["not"]], [["ninechars"]], [[""]], [["a", ["b"]]], [[["a"]]],
+    [[-1]], [[0, -1]], [[True]], [[False]], [[0, True]], [[None]], [["a", None]], [["a", 1]], [[1, "a"]],
+    [["a"], [1]], [(0,), (), ("b",)], [["a"], "b"], [["a"], 1], [[1], 1], [[{}]], [[1], [[2]]], [[()]],
+    [[1.5]], [["1"]], [list(range(13))], [tuple(LETTERS[:13])], [[one] for one in range(13)],
+    [[letter] for letter in LETTERS[:13]], [[]] * 101, [["a"]] * 101, ([1],) * 101,
+]

@@ -1,0 +1,101 @@
+"""Slow walks that follow the document's words, and small bases to walk over.
+
+Nothing here uses more of the program than Rule, so that the program is
+measured by something else than itself.
+"""
+
+import itertools
+import random
+
+from groundlots.rules import Rule
+
+
+def all_sets(things):
+    """All sets of things as rising tuples, in the order of lots."""
+    rising = sorted(things)
+    return [one for many in range(len(rising) + 1) for one in itertools.combinations(rising, many)]
+
+
+def in_lots(sets):
+    """Sets as rising tuples, each once, in the order of lots."""
+    return sorted({tuple(sorted(one)) for one in sets}, key=lambda one: (len(one), one))
+
+
+def least_of(sets):
+    """The lot of the sets within which no other one lies."""
+    return in_lots(one for one in sets if not any(set(other) < set(one) for other in sets))
+
+
+def greatest_of(sets):
+    """The sets that lie within no other one, in the order of lots."""
+    return in_lots(one for one in sets if not any(set(one) < set(other) for other in sets))
+
+
+def names_of(rules, more=()):
+    """The rising list of the names in rules and more."""
+    found = set(more)
+    for rule in rules:
+        found |= {rule.head, *rule.body, *rule.unless} - {None}
+    return sorted(found)
+
+
+def is_closed(rules, names):
+    """Whether a set of names has each head of a rule whose body it has."""
+    return all(rule.head is None or rule.head in names or not set(rule.body) <= set(names) for rule in rules)
+
+
+def slow_held(rules, grounds):
+    """The least closed set with all grounds: what is in each of them."""
+    closed = [set(one) for one in all_sets(names_of(rules, grounds))
+              if set(grounds) <= set(one) and is_closed(rules, one)]
+    return sorted(set.intersection(*closed))
+
+
+def quick_held(rules, grounds):
+    """The same, for bases with too many names for all sets of them."""
+    found = set(grounds)
+    while not is_closed(rules, found):
+        found |= {rule.head for rule in rules if set(rule.body) <= found} - {None}
+    return sorted(found)
+
+
+def slow_clash(rules, grounds):
+    """Whether some never has all its body held."""
+    there = set(quick_held(rules, grounds))
+    return any(rule.head is None and set(rule.body) <= there for rule in rules)
+
+
+def is_paper(rules, grounds, name, places):
+    """Whether a list of places is a paper, by the words of the document."""
+    if not places:
+        return name is not None and name in grounds
+    for at, place in enumerate(places):
+        ahead = {rules[one].head for one in places[:at]}
+        if not set(rules[place].body) <= set(grounds) | ahead:
+            return False
+        if rules[place].head is None and at < len(places) - 1:
+            return False
+    return rules[places[-1]].head == name
+
+
+def is_least_paper(rules, grounds, name, places):
+    """Whether a paper has no lesser part, in the same order, that is one."""
+    return is_paper(rules, grounds, name, places) and not any(
+        is_paper(rules, grounds, name, list(part))
+        for many in range(len(places)) for part in itertools.combinations(places, many))
+
+
+def some_bases(many, names="abcde", most_rules=7, seed=1, nevers=1):
+    """Small plain bases, all kinds of them, always the same; of each rule's heads so many are None."""
+    chance = random.Random(seed)
+    for _ in range(many):
+        heads = list(names) + [None] * nevers
+        yield [Rule(chance.choice(heads), chance.sample(names, chance.choice((0, 1, 1, 2, 2, 3))))
+               for _ in range(chance.randrange(most_rules + 1))]
+
+
+def some_of(chance, things):
+    """Some of the things, in any order."""
+    found = [one for one in things if chance.random() < 0.5]
+    chance.shuffle(found)
+    return found

@@ -19,7 +19,8 @@ def some_sets(many, things, seed, most=6):
     """Lists of sets of things, as lists or tuples, in any order, like ones also twice."""
     chance = random.Random(seed)
     for _ in range(many):
-        sets = [chance.sample(things, chance.choice((0, 1, 1, 2, 2, 2, 3, 4, 5))) for _ in range(chance.randrange(most))]
+        sizes = [chance.choice((0, 1, 1, 2, 2, 2, 3, 4, 5)) for _ in range(chance.randrange(most))]
+        sets = [chance.sample(things, size) for size in sizes]
         sets += [chance.sample(one, len(one)) for one in sets if chance.random() < 0.2]
         if chance.random() < 0.8:
             sets = [one for one in sets if one]

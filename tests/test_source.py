@@ -10,13 +10,14 @@ import unittest
 
 ROOT = os.path.dirname(os.path.dirname(os.path.abspath(__file__)))
 PACKAGE = os.path.join(ROOT, "groundlots")
-IN_ORDER = ["errors", "words", "rules", "texts", "held", "lots"]
+IN_ORDER = ["errors", "words", "rules", "texts", "held", "lots", "labels", "telling", "network", "contexts"]
 FILES = sorted(["__init__.py"] + [f"{name}.py" for name in IN_ORDER])
 
 # L25 Methods of builtin values, of which the code may call these.
 BUILTIN_METHODS = """append clear copy count endswith extend find get index insert isalnum isalpha isdigit islower
-    isspace isupper items join keys ljust lower lstrip partition pop remove replace reverse rfind rjust rpartition rsplit
-    rstrip setdefault split splitlines startswith strip update upper values zfill bit_length add discard""".split()
+    isspace isupper items join keys ljust lower lstrip partition pop remove replace reverse rfind rjust rpartition
+    rsplit rstrip setdefault split splitlines startswith strip update upper values zfill bit_length
+    add discard""".split()
 
 # L17 Words that occur nowhere but in comments and docstrings.
 BARRED = """type typing typing_extensions enum Enum IntEnum StrEnum Flag IntFlag Generic Protocol ABC ABCMeta namedtuple
@@ -59,7 +60,8 @@ def without_docstrings(name):
 def bound_in(function):
     """The names that a function binds: its parameters, and what it assigns."""
     found = {one.arg for one in ast.walk(function.args) if isinstance(one, ast.arg)}
-    return found | {one.id for one in ast.walk(function) if isinstance(one, ast.Name) and isinstance(one.ctx, ast.Store)}
+    stored = [one for one in ast.walk(function) if isinstance(one, ast.Name) and isinstance(one.ctx, ast.Store)]
+    return found | {one.id for one in stored}
 
 
 class Package(unittest.TestCase):

@@ -175,7 +175,8 @@ class BaseText(Refusing):
         self.assertEqual(base_text([], list(LETTERS[:24])).count("may"), 24)
         self.assertEqual(base_text(base_with(24), list(LETTERS[:24])).count("\n"), 28)
         self.assertEqual(base_text(base_with(20), list(LETTERS[10:24])).count("\n"), 18)
-        self.assertEqual(base_text([Rule(None, unless=list(LETTERS[at:at + 4])) for at in range(0, 24, 4)]).count("not"), 24)
+        fours = [Rule(None, unless=list(LETTERS[at:at + 4])) for at in range(0, 24, 4)]
+        self.assertEqual(base_text(fours).count("not"), 24)
 
     def test_more_than_there_may_be(self):
         self.refused(BadRules, base_text, [Rule("a")] * 41)
@@ -246,9 +247,9 @@ class ReadBase(Refusing):
                 self.assertEqual(self.row(f"may a\na\n  \n{text}\n,\n{text}"), 4, repr(text))
 
     def test_rows_of_may_that_are_none(self):
-        for row in ("may", "may ", "may a b", "may a, b", "may a,", "may ,a", "may,a", "may not", "may not a", "may may",
-                    "may never", "may A", "may a <- b", "may <- a", "may ninechars", "may\ta", "may a\t", "may1 a",
-                    "a may", "may a1"):
+        for row in ("may", "may ", "may a b", "may a, b", "may a,", "may ,a", "may,a", "may not", "may not a",
+                    "may may", "may never", "may A", "may a <- b", "may <- a", "may ninechars", "may\ta", "may a\t",
+                    "may1 a", "a may", "may a1"):
             self.assertEqual(self.row(row), 1, row)
             self.assertEqual(self.row(f"b\nmay c\n\n{row}\n{row}\n"), 4, row)
 

@@ -40,6 +40,17 @@ NOT_PLAIN = [
     [Rule(None, unless=["a"])],
 ]
 
+# None of these is a Rule.
+NO_RULES = [thing for thing in NEITHER if not isinstance(thing, Rule)] + NAMES + LISTS + [
+    Rule("a").told(), [Rule("a")], (Rule("a"),), "a <- b", {"a": Rule("a")},
+]
+
+# None of these is the number of one of three rules.
+NO_NUMBERS = [
+    0, -1, 4, 10 ** 30, True, False, None, "", "1", "a", [], [1], (), (1,), {}, {1: 1}, 1.5, [[1]], (True,), Rule("a"),
+    Rule("a").told(),
+]
+
 # None of these is a list of sets, of names alone or numbers alone.
 NO_SETS = [
     0, 1, -1, 7, True, False, None, "", "a", "ab", {}, {"a": 1}, {(): 1}, Rule("a"), Rule(None),

@@ -85,13 +85,19 @@ def is_least_paper(rules, grounds, name, places):
         for many in range(len(places)) for part in itertools.combinations(places, many))
 
 
-def some_bases(many, names="abcde", most_rules=7, seed=1, nevers=1):
-    """Small plain bases, all kinds of them, always the same; of each rule's heads so many are None."""
+def some_bases(many, names="abcde", most_rules=7, seed=1, nevers=1, sizes=(0, 1, 1, 2, 2, 3)):
+    """Small plain bases, always the same: the heads are names or, nevers times, None; sizes are those of bodies."""
     chance = random.Random(seed)
     for _ in range(many):
         heads = list(names) + [None] * nevers
-        yield [Rule(chance.choice(heads), chance.sample(names, chance.choice((0, 1, 1, 2, 2, 3))))
+        yield [Rule(chance.choice(heads), chance.sample(names, chance.choice(sizes)))
                for _ in range(chance.randrange(most_rules + 1))]
+
+
+def many_rules():
+    """Rules by which r is held by 120 least sets of ten names."""
+    return [Rule("p", list(some)) for some in itertools.combinations("abcd", 2)] + [
+        Rule("q", list(some)) for some in itertools.combinations("efghij", 3)] + [Rule("r", ["p", "q"])]
 
 
 def some_of(chance, things):
@@ -99,3 +105,44 @@ def some_of(chance, things):
     found = [one for one in things if chance.random() < 0.5]
     chance.shuffle(found)
     return found
+
+
+def is_sound(rules, names):
+    """Whether there is no clash by a set of names."""
+    return not slow_clash(rules, names)
+
+
+def sound_sets(rules, may):
+    """All sound sets of may, in the order of lots."""
+    return [one for one in all_sets(may) if is_sound(rules, one)]
+
+
+def slow_contradictions(rules, may):
+    """The least sets of may that are not sound."""
+    return least_of([one for one in all_sets(may) if not is_sound(rules, one)])
+
+
+def slow_label(rules, may, name):
+    """The least sound sets of may by which a name is held."""
+    return least_of([one for one in sound_sets(rules, may) if name in quick_held(rules, one)])
+
+
+def slow_labels(rules, may):
+    """The labels of all names that stand in rules or may."""
+    return {name: slow_label(rules, may, name) for name in names_of(rules, may)}
+
+
+def slow_lacking(rules, may, name):
+    """The greatest sound sets of may by which a name is not held."""
+    return greatest_of([one for one in sound_sets(rules, may) if name not in quick_held(rules, one)])
+
+
+def slow_contexts(rules, may):
+    """The greatest sound sets of may."""
+    return greatest_of(sound_sets(rules, may))
+
+
+def slow_repairs(rules, may):
+    """The least sets of may that have a name of each contradiction."""
+    against = slow_contradictions(rules, may)
+    return least_of([one for one in all_sets(may) if all(set(one) & set(other) for other in against)])

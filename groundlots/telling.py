@@ -33,14 +33,13 @@ class Telling:
 
     def drop(self, number):
         """Takes the rule of that number out and gives it; NoRule."""
-        if not is_number(number):
+        # True is equal to 1, but no number.
+        found = [rule for one, rule in self._now["rules"] if is_number(number) and one == number]
+        if not found:
             raise NoRule(number)
-        for one, rule in self._now["rules"]:
-            if one == number:
-                pairs = tuple([pair for pair in self._now["rules"] if pair[0] != number])
-                self._do(("drop", number), {"rules": pairs})
-                return rule
-        raise NoRule(number)
+        rest = tuple([pair for pair in self._now["rules"] if pair[0] != number])
+        self._do(("drop", number), {"rules": rest})
+        return found[0]
 
     def rules(self):
         """The list of pairs (number, rule), rising."""

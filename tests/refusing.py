@@ -4,8 +4,8 @@ import copy
 import itertools
 import unittest
 
-from groundlots.errors import BadName, BadNames, BadRules, BadSets, GroundError, NotPlain
-from things import LETTERS, LISTS, NAMES, NEITHER, NO_BASES, NO_SETS, NOT_PLAIN
+from groundlots.errors import BadName, BadNames, BadRanks, BadRules, BadSets, GroundError, NotPlain
+from things import LETTERS, LISTS, NAMES, NEITHER, NO_BASES, NO_RANK, NO_RANKS, NO_SETS, NOT_PLAIN
 
 NO_NAMES = [(thing, BadNames) for thing in NEITHER + NAMES + [list(LETTERS[:25]), tuple(LETTERS)]]
 
@@ -18,6 +18,9 @@ WRONG = {
     "name": [(thing, BadName) for thing in NEITHER + LISTS],
     "goal": [(thing, BadName) for thing in NEITHER + LISTS if thing is not None],
     "sets": [(thing, BadSets) for thing in NO_SETS],
+    "ranks": [(thing, BadRanks) for thing in NO_RANKS],
+    "rank": [(thing, BadRanks) for thing in NO_RANK],
+    "least": [(thing, BadRanks) for thing in NO_RANK if thing != 10],
 }
 
 

@@ -10,7 +10,8 @@ import unittest
 
 ROOT = os.path.dirname(os.path.dirname(os.path.abspath(__file__)))
 PACKAGE = os.path.join(ROOT, "groundlots")
-IN_ORDER = ["errors", "words", "rules", "texts", "held", "lots", "labels", "telling", "network", "contexts"]
+IN_ORDER = ["errors", "words", "rules", "texts", "held", "lots", "labels", "telling", "network", "contexts", "ranks",
+            "change", "standings"]
 FILES = sorted(["__init__.py"] + [f"{name}.py" for name in IN_ORDER])
 
 # L25 Methods of builtin values, of which the code may call these.

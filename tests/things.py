@@ -61,3 +61,18 @@ NO_SETS = [
     [[1.5]], [["1"]], [list(range(13))], [tuple(LETTERS[:13])], [[one] for one in range(13)],
     [[letter] for letter in LETTERS[:13]], [[]] * 101, [["a"]] * 101, ([1],) * 101,
 ]
+
+# None of these is a dict of ranks.
+NO_RANKS = [thing for thing in NEITHER if thing not in ({}, {"a": 1})] + NAMES + LISTS + [
+    {"a": 0}, {"a": 10}, {"a": -1}, {"a": 10 ** 30}, {"a": True}, {"a": False}, {"a": None}, {"a": "5"}, {"a": ""},
+    {"a": [5]}, {"a": (5,)}, {"a": {}}, {"a": {"a": 5}}, {"a": Rule("a")}, {"a": 5, "b": 0}, {"a": 10, "b": 5},
+    {"a": 5, "b": 5, "c": True}, {"A": 5}, {"": 5}, {"not": 5}, {"never": 5}, {"may": 5}, {"ninechars": 5}, {"a b": 5},
+    {1: 5}, {True: 5}, {None: 5}, {(): 5}, {("a",): 5}, {"a": 5, 1: 5}, {"a": 5, "B": 5}, [("a", 5)], (("a", 5),),
+    [{"a": 5}], ({"a": 5},), {letter: 5 for letter in LETTERS[:11]}, {letter: 1 for letter in LETTERS},
+]
+
+# None of these is a rank, a number from 1 to 9.
+NO_RANK = [
+    0, -1, 10, 11, 10 ** 30, -5, True, False, None, "", "5", "a", [], [5], (), (5,), {}, {"a": 5}, {5: 5}, Rule("a"),
+    Rule(None), [True], ["a"], ("a", "b"),
+]

@@ -146,3 +146,102 @@ def slow_repairs(rules, may):
     """The least sets of may that have a name of each contradiction."""
     against = slow_contradictions(rules, may)
     return least_of([one for one in all_sets(may) if all(set(one) & set(other) for other in against)])
+
+
+def slow_cut(ranks, least):
+    """The rising tuple of the names of that rank or a higher one."""
+    return tuple(sorted(name for name in ranks if ranks[name] >= least))
+
+
+def is_held(rules, grounds, name):
+    """Whether a name is held by the grounds, or, for None, there is a clash."""
+    return slow_clash(rules, grounds) if name is None else name in quick_held(rules, grounds)
+
+
+def slow_best_of(ranks, greatest):
+    """Those of the greatest sets of all names whose names of each cut are one of the greatest sets of that cut."""
+    cuts = [slow_cut(ranks, least) for least in range(1, 11)]
+    right = {one: greatest(one) for one in cuts}
+    return [one for one in greatest(slow_cut(ranks, 1))
+            if all(tuple(name for name in one if name in ground) in right[ground] for ground in cuts)]
+
+
+def slow_best(rules, ranks):
+    """The best contexts."""
+    return slow_best_of(ranks, lambda ground: slow_contexts(rules, ground))
+
+
+def slow_clash_rank(rules, ranks):
+    """The highest number from 1 to 10 whose cut is not sound; 0 where each is."""
+    return max([least for least in range(1, 11) if not is_sound(rules, slow_cut(ranks, least))], default=0)
+
+
+def slow_firm(rules, ranks, name):
+    """The highest number by whose cut the name is held, where that is above the clash rank; else 0."""
+    number = max([least for least in range(1, 11) if name in quick_held(rules, slow_cut(ranks, least))], default=0)
+    return number if number > slow_clash_rank(rules, ranks) else 0
+
+
+def slow_kernels(rules, base, name):
+    """The least sets of base by which a name is held, or, for None, there is a clash."""
+    return least_of([one for one in all_sets(base) if is_held(rules, one, name)])
+
+
+def slow_remainders(rules, base, name):
+    """The greatest sets of base by which it is not."""
+    return greatest_of([one for one in all_sets(base) if not is_held(rules, one, name)])
+
+
+def slow_given_up(rules, ranks, name, way):
+    """What is given up by a way; None where it is held without any grounds."""
+    if is_held(rules, (), name):
+        return None
+    if way == "each":
+        return slow_lowest(slow_kernels(rules, ranks, name), ranks)
+    kept = slow_best_of(ranks, lambda ground: slow_remainders(rules, ground, name))
+    return tuple(sorted(one for one in ranks if not all(one in some for some in kept)))
+
+
+def slow_lowest(sets, ranks):
+    """The names that have the lowest rank in one of the sets."""
+    return tuple(sorted({name for one in sets for name in one if ranks[name] == min(ranks[other] for other in one)}))
+
+
+def slow_taken_on(rules, ranks, name, rank):
+    """The new ranks; None where the name alone is not sound."""
+    if not is_sound(rules, [name]):
+        return None
+    against = [set(one) - {name} for one in slow_kernels(rules, sorted({*ranks, name}), None)]
+    gone = slow_lowest(against, ranks)
+    return {one: {**ranks, name: rank}[one] for one in sorted({*ranks, name}) if one not in gone}
+
+
+def slow_reduct(rules, names):
+    """The rules none of whose unless is in names, as plain ones."""
+    return [Rule(rule.head, rule.body) for rule in rules if not set(rule.unless) & set(names)]
+
+
+def is_slow_standing(rules, grounds, names):
+    """Whether a set of names is just what its reduct and the grounds hold, without a clash."""
+    plain = slow_reduct(rules, names)
+    return set(quick_held(plain, grounds)) == set(names) and not slow_clash(plain, grounds)
+
+
+def slow_standings(rules, grounds):
+    """All standings among all sets of names."""
+    return [one for one in all_sets(names_of(rules, grounds)) if is_slow_standing(rules, grounds, one)]
+
+
+def some_open_bases(many, names="abcde", most_rules=7, seed=1, nevers=1, nots=(0, 0, 1, 1, 2)):
+    """Small bases of any kind, always the same: as those above, and nots are the sizes of what stands behind `not`."""
+    chance = random.Random(seed)
+    for _ in range(many):
+        heads = list(names) + [None] * nevers
+        yield [Rule(chance.choice(heads), chance.sample(names, chance.choice((0, 0, 1, 1, 2))),
+                    unless=chance.sample(names, chance.choice(nots))) for _ in range(chance.randrange(most_rules + 1))]
+
+
+def some_ranks(chance, names):
+    """Ranks of some of the names, in any order: few unlike ones, or many."""
+    low, high = chance.choice([(1, 9), (4, 6), (5, 5), (1, 2), (8, 9)])
+    return {name: chance.randint(low, high) for name in some_of(chance, names)}

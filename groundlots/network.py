@@ -1,10 +1,10 @@
 """A network of plain rules and assumed names under deeds."""
 
-from groundlots.errors import NoLog, NotPlain, NotThere, TooMany, Twice
+from groundlots.errors import NoLog, NotPlain, NotThere, TooMany
 from groundlots.held import rounds
 from groundlots.labels import MOST_ASSUMED, Reach, contradictions_by, label_by, labels_by, lacking_by, masks_reached
 from groundlots.rules import Rule, names_in, rule_of, wanted_plain
-from groundlots.telling import Telling, check_room
+from groundlots.telling import Telling
 from groundlots.words import wanted_name, wanted_names
 
 MOST_DEEDS = 200
@@ -60,20 +60,14 @@ class Network(Telling):
 
     def assume(self, name):
         """Assumes the name; BadName, Twice, TooMany."""
-        names = self._now["names"]
-        if wanted_name(name) in names:
-            raise Twice(name)
-        if len(names) == MOST_ASSUMED:
+        new = self._with_name(name)
+        if len(new["names"]) > MOST_ASSUMED:
             raise TooMany("this is an eleventh assumed name")
-        check_room(self._standing(), (*names, name))
-        self._do(("assume", name), {"names": (*names, name)})
+        self._do(("assume", name), new)
 
     def unassume(self, name):
         """Assumes the name no more; BadName, NotThere."""
-        names = self._now["names"]
-        if wanted_name(name) not in names:
-            raise NotThere(name)
-        self._do(("unassume", name), {"names": tuple([one for one in names if one != name])})
+        self._do(("unassume", name), self._without_name(name))
 
     def may(self):
         """The rising list of the assumed names."""

@@ -1,8 +1,8 @@
 """Rules under numbers, told and dropped by deeds that can be taken back and done again."""
 
-from groundlots.errors import BadRule, NoDeed, NoRule, TooMany
+from groundlots.errors import BadRule, NoDeed, NoRule, NotThere, TooMany, Twice
 from groundlots.rules import MOST_RULES, Rule, names_in
-from groundlots.words import MOST_NAMES, is_number
+from groundlots.words import MOST_NAMES, is_number, wanted_name
 
 
 class Telling:
@@ -23,13 +23,9 @@ class Telling:
 
     def tell(self, rule):
         """Takes the rule in and gives its number; BadRule, TooMany."""
-        if not isinstance(rule, Rule):
-            raise BadRule("this is no rule")
-        check_room([*self._standing(), rule], self._now["names"])
-        number = self._now["last"] + 1
-        pairs = (*self._now["rules"], (number, rule))
-        self._do(("tell", rule.told()), {"rules": pairs, "last": number})
-        return number
+        new = self._with_rule(rule)
+        self._do(("tell", rule.told()), new)
+        return new["last"]
 
     def drop(self, number):
         """Takes the rule of that number out and gives it; NoRule."""
@@ -74,6 +70,29 @@ class Telling:
     def _standing(self):
         """The list of the rules that stand, in the order of their numbers."""
         return [rule for _, rule in self._now["rules"]]
+
+    def _with_rule(self, rule):
+        """What a rule more makes other; BadRule, TooMany."""
+        if not isinstance(rule, Rule):
+            raise BadRule("this is no rule")
+        check_room([*self._standing(), rule], self._now["names"])
+        number = self._now["last"] + 1
+        return {"rules": (*self._now["rules"], (number, rule)), "last": number}
+
+    def _with_name(self, name):
+        """What a name more makes other; BadName, Twice, TooMany."""
+        names = self._now["names"]
+        if wanted_name(name) in names:
+            raise Twice(name)
+        check_room(self._standing(), (*names, name))
+        return {"names": (*names, name)}
+
+    def _without_name(self, name):
+        """What a name less makes other; BadName, NotThere."""
+        names = self._now["names"]
+        if wanted_name(name) not in names:
+            raise NotThere(name)
+        return {"names": tuple([one for one in names if one != name])}
 
     def _do(self, row, new):
         """Does a deed: new are those things of what stands that it makes other ones."""

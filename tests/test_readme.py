@@ -40,7 +40,7 @@ class Readme(unittest.TestCase):
                 if comment and not isinstance(part, ast.Try):
                     self.assertEqual(told, worth(comment, names), code)
                     found += 1
-        self.assertGreater(found, 70)
+        self.assertGreater(found, 100)
 
 
 if __name__ == "__main__":

@@ -11,7 +11,8 @@ import unittest
 ROOT = os.path.dirname(os.path.dirname(os.path.abspath(__file__)))
 PACKAGE = os.path.join(ROOT, "groundlots")
 IN_ORDER = ["errors", "words", "rules", "texts", "held", "lots", "labels", "telling", "network", "contexts", "ranks",
-            "change", "standings"]
+            "change", "standings", "keeper", "machines", "told", "desk"]
+LIBRARY = {"math": ["gcd"]}
 FILES = sorted(["__init__.py"] + [f"{name}.py" for name in IN_ORDER])
 
 # L25 Methods of builtin values, of which the code may call these.
@@ -41,6 +42,23 @@ def nodes(*kinds):
         for node in ast.walk(tree(name)):
             if isinstance(node, kinds):
                 yield name, node
+
+
+def defined_in(module):
+    """The names that a file of the package defines."""
+    there = tree(module.split(".")[1] + ".py").body
+    found = [row.name for row in there if isinstance(row, (ast.FunctionDef, ast.ClassDef))]
+    return found + [row.targets[0].id for row in there if isinstance(row, ast.Assign)]
+
+
+def is_plain(value, whole):
+    """Whether a value at module level is a literal, or a dict from literals to functions of the file above it."""
+    above = [row.name for row in whole.body if isinstance(row, ast.FunctionDef) and row.lineno < value.lineno]
+    if isinstance(value, ast.Dict):
+        return all(isinstance(one, ast.Constant) for one in value.keys) and all(
+            isinstance(one, ast.Constant) or isinstance(one, ast.Name) and one.id in above for one in value.values)
+    ast.literal_eval(value)
+    return True
 
 
 def is_docstring(node, parent):
@@ -85,13 +103,11 @@ class Package(unittest.TestCase):
                 self.assertNotIsInstance(node, ast.Import, module)
                 if isinstance(node, ast.ImportFrom):
                     self.assertEqual(node.level, 0)
-                    self.assertIn(node.module, allowed)
+                    self.assertIn(node.module, allowed + list(LIBRARY))
 
     def test_imports_name_the_file_that_defines_the_name_and_are_used(self):
         for name, node in nodes(ast.ImportFrom):
-            there = tree(node.module.split(".")[1] + ".py").body
-            defined = [row.name for row in there if isinstance(row, (ast.FunctionDef, ast.ClassDef))]
-            defined += [row.targets[0].id for row in there if isinstance(row, ast.Assign)]
+            defined = LIBRARY[node.module] if node.module in LIBRARY else defined_in(node.module)
             used = {one.id for one in ast.walk(tree(name)) if isinstance(one, ast.Name)}
             for one in node.names:
                 self.assertIsNone(one.asname)
@@ -120,7 +136,7 @@ class Sizes(unittest.TestCase):
             for row in tree(name).body:
                 self.assertIsInstance(row, kinds, name)
                 if isinstance(row, ast.Assign):
-                    ast.literal_eval(row.value)
+                    self.assertTrue(is_plain(row.value, tree(name)), (name, row.lineno))
 
 
 class Language(unittest.TestCase):
@@ -170,6 +186,36 @@ class Language(unittest.TestCase):
             for sign, thing in zip(node.ops, node.comparators):
                 if isinstance(sign, (ast.Is, ast.IsNot)):
                     self.assertIsInstance(thing, ast.Constant, name)
+
+    def test_words_of_the_library_are_called_by_place_and_nothing_else(self):
+        words = [word for words in LIBRARY.values() for word in words]
+        for name in FILES:
+            called = [node for node in ast.walk(tree(name)) if isinstance(node, ast.Call)
+                      and isinstance(node.func, ast.Name) and node.func.id in words]
+            named = [node for node in ast.walk(tree(name)) if isinstance(node, ast.Name) and node.id in words]
+            self.assertEqual([node.func.id for node in called], [node.id for node in named], name)
+            for node in called:
+                self.assertEqual(node.keywords, [])
+
+    def test_super_calls_a_method_and_nothing_else(self):
+        for name in FILES:
+            called = [node.func.value for node in ast.walk(tree(name)) if isinstance(node, ast.Call)
+                      and isinstance(node.func, ast.Attribute) and not node.func.attr.startswith("__")]
+            at = {(one.lineno, one.col_offset) for one in called}
+            for node in ast.walk(tree(name)):
+                if isinstance(node, ast.Call) and isinstance(node.func, ast.Name) and node.func.id == "super":
+                    self.assertIn((node.lineno, node.col_offset), at, name)
+                    self.assertEqual((node.args, node.keywords), ([], []))
+
+    def test_names_begin_with_two_underscores_only_where_python_wants_them(self):
+        allowed = {"__init__", "__str__", "__eq__", "__class__", "__name__"}
+        for name in FILES:
+            there = set(re.findall(r"\b__\w+", without_docstrings(name)))
+            self.assertLessEqual(there, allowed, name)
+
+    def test_functions_in_tables_are_given_a_name_ahead_of_their_call(self):
+        for name, node in nodes(ast.Call):
+            self.assertIsInstance(node.func, (ast.Name, ast.Attribute), name)
 
     def test_methods_that_are_called(self):
         own = {node.name for _, node in nodes(ast.FunctionDef)}
